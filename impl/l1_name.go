@@ -45,6 +45,16 @@ func kindOfByte(c byte) int {
 	return strangeByte
 }
 
+func foldBytes(s string) string {
+	folded := []byte(s)
+	for i, c := range folded {
+		if kindOfByte(c) == greatByte {
+			folded[i] = c - 'A' + 'a'
+		}
+	}
+	return string(folded)
+}
+
 func isLabel(s string) bool {
 	if s == starLabel {
 		return true
@@ -198,13 +208,7 @@ func FoldName(s string) (string, bool) {
 	if len(s) > MaxName {
 		return "", false
 	}
-	folded := []byte(s)
-	for i, c := range folded {
-		if kindOfByte(c) == greatByte {
-			folded[i] = c - 'A' + 'a'
-		}
-	}
-	name := string(folded)
+	name := foldBytes(s)
 	if !GoodName(name) {
 		return "", false
 	}
