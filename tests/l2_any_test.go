@@ -110,18 +110,7 @@ func TestWireAnswersAtAnyArguments(t *testing.T) {
 
 // All texts of at most five bytes over the bytes that the chapter tells apart, at every place.
 func TestWireOfAllSmallTexts(t *testing.T) {
-	all := []string{""}
-	from := 0
-	for range 5 {
-		to := len(all)
-		for _, s := range all[from:to] {
-			for _, c := range []byte("\x00\x01\x02aA.\x40\xc0") {
-				all = append(all, s+string([]byte{c}))
-			}
-		}
-		from = to
-	}
-	for _, b := range all {
+	for _, b := range textsOver("\x00\x01\x02aA.\x40\xc0", 5) {
 		for at := -1; at <= len(b); at++ {
 			checkWire(t, b, at, at)
 		}

@@ -41,20 +41,25 @@ func badNames() []string {
 	}
 }
 
-// smallTexts are all texts of at most four bytes over the bytes that chapter 1 tells apart.
-func smallTexts() []string {
+// textsOver are all texts of at most so many of these bytes.
+func textsOver(bytes string, most int) []string {
 	all := []string{""}
 	from := 0
-	for range 4 {
+	for range most {
 		to := len(all)
 		for _, s := range all[from:to] {
-			for _, c := range []byte("ab-_0.*A\x00\xff") {
+			for _, c := range []byte(bytes) {
 				all = append(all, s+string([]byte{c}))
 			}
 		}
 		from = to
 	}
 	return all
+}
+
+// smallTexts are all texts of at most four bytes over the bytes that chapter 1 tells apart.
+func smallTexts() []string {
+	return textsOver("ab-_0.*A\x00\xff", 4)
 }
 
 // wantLabels splits by hand, so that the tests do not lean on LabelsOf.
