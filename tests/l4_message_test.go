@@ -332,7 +332,7 @@ func TestAllNamesArePacked(t *testing.T) {
 	wantBack(t, replyOf(namesOnly(slices.Repeat([]string{name60}, 12)), namesOnly(slices.Repeat([]string{name60}, 12))))
 }
 
-// Names that just have MaxWire bytes when they are packed, and names that have more.
+// Names that just have MaxWire bytes when they are packed, and names that have more: a message has no such limit.
 func TestNamesOfMaxWireBytes(t *testing.T) {
 	names := twentyOf30()
 	m := replyOf(namesOnly(names[1:13]), namesOnly(names[13:]))
@@ -341,23 +341,18 @@ func TestNamesOfMaxWireBytes(t *testing.T) {
 	if b[6:8] != "\x02\x58" || len(b) != 8+600+1+19*6 {
 		t.Errorf("the names have %x bytes, all of it %d", b[6:8], len(b))
 	}
-	for _, more := range []string{"", names[0], "a", "z." + names[5]} {
-		over := m
-		over.Authority = append(slices.Clone(m.Authority), noteOf(more, "x"))
-		if !impl.GoodMessage(over) {
-			t.Errorf("not good with %q", more)
-		}
-		if b, ok := impl.MessageBytes(over); b != "" || ok {
-			t.Errorf("MessageBytes of names that are too long with %q = %d bytes, %v", more, len(b), ok)
-		}
-	}
 	packed := ""
 	for _, name := range names {
 		packed += wantPlain(name)
 	}
 	front, behind := "\x00\x07\x80\x00\x0c\x08", "\x01"+strings.Repeat("\x10\x00\x00\x00\x01\x00", 20)
-	wantNoMessage(t, messageWire(front, packed+"\x00", behind))
-	wantNoMessage(t, messageWire(front, packed+"\xc0\x00", behind))
+	more := map[string]string{"": "\x00", names[0]: "\xc0\x00", names[19]: "\xc2\x3a", "a": "\x01a\x00", "z." + names[5]: "\x01z\xc0\x96"}
+	for name, told := range more {
+		over := m
+		over.Authority = append(slices.Clone(m.Authority), namesOnly([]string{name})...)
+		wantMessageBack(t, over, messageWire(front, packed+told, behind))
+		wantNoMessage(t, messageWire(front, packed+told+"\x00", behind))
+	}
 }
 
 // A name is pointed to however far ahead it stands, up to the last place at which one can.
@@ -537,7 +532,7 @@ func TestReplyTo(t *testing.T) {
 	wantNoReply(t, reply, 0, answer, nil)
 }
 
-// A Reply to a question is one whose names are as long as they like: it is good, though it may have no bytes.
+// A Reply to a question is one whose names have as many bytes as they like.
 func TestReplyToWithLongNames(t *testing.T) {
 	names := twentyOf30()
 	want := replyOf(namesOnly(names[:10]), namesOnly(names[10:]))
@@ -545,6 +540,7 @@ func TestReplyToWithLongNames(t *testing.T) {
 	if !alikeMessages(m, want) || !ok {
 		t.Errorf("ReplyTo = %s, %v", shown(m), ok)
 	}
+	wantBack(t, m)
 }
 
 // Promise 4: what is cut has its size, and whole sets: none of it less than the size asks for.
@@ -676,12 +672,12 @@ func TestQuestionsAreNotCut(t *testing.T) {
 }
 
 // Names of more than MaxWire bytes are above every size: sets go until there are fewer.
-func TestCutOfNamesThatAreTooLong(t *testing.T) {
+func TestCutOfLongNames(t *testing.T) {
 	names := twentyOf30()
 	m := replyOf(namesOnly(names[:12]), namesOnly(names[12:]))
 	m.Name = ""
-	if b, ok := impl.MessageBytes(m); b != "" || ok {
-		t.Fatalf("%d bytes, %v", len(b), ok)
+	if b := wantBack(t, m); len(b) != 8+601+1+20*6 {
+		t.Fatalf("%d bytes", len(b))
 	}
 	wantCutTo(t, m, 600, 12, 4)
 	wantCutTo(t, m, 10+36, 1, 0)
@@ -696,7 +692,7 @@ func TestMessagesComeBack(t *testing.T) {
 		m := goodRandomMessage(r)
 		b, ok := impl.MessageBytes(m)
 		back, read := impl.ReadMessage(b)
-		if ok != read || ok && !alikeMessages(back, m) {
+		if !ok || !read || !alikeMessages(back, m) {
 			t.Errorf("%s comes back as %s, %v, %v", shown(m), shown(back), ok, read)
 		}
 	}

@@ -20,25 +20,20 @@ func wantGoodMessage(m impl.Message) bool {
 		(m.Reply || bare)
 }
 
-// wantPackedNames packs the message's own name, and those of all records.
-func wantPackedNames(m impl.Message) (string, bool) {
-	packed, ok := wantPut("", m.Name)
+// wantPackedNames packs the message's own name, and those of all records, however many bytes they have.
+func wantPackedNames(m impl.Message) string {
+	packed := wantPutLong("", m.Name)
 	for _, r := range slices.Concat(m.Answer, m.Authority) {
-		if ok {
-			packed, ok = wantPut(packed, r.Name)
-		}
+		packed = wantPutLong(packed, r.Name)
 	}
-	return packed, ok
+	return packed
 }
 
 func wantMessageBytes(m impl.Message) (string, bool) {
 	if !wantGoodMessage(m) {
 		return "", false
 	}
-	packed, ok := wantPackedNames(m)
-	if !ok {
-		return "", false
-	}
+	packed := wantPackedNames(m)
 	b := binary.BigEndian.AppendUint16(nil, uint16(m.Id))
 	b = append(b, 0, byte(m.Code), byte(len(m.Answer)), byte(len(m.Authority)))
 	if m.Reply {
@@ -68,13 +63,13 @@ func wantMessageFrom(b string) (impl.Message, bool) {
 		return impl.Message{}, false
 	}
 	packed := b[8 : 8+size]
-	name, _, at, ok := wantRead(packed, 0)
+	name, _, at, ok := wantReadLong(packed, 0)
 	m.Name, m.Type = name, int(b[8+size])
 	rest := bytes.NewBufferString(b[8+size+1:])
 	for i := 0; ok && i < int(b[4])+int(b[5]); i++ {
 		var r impl.Record
 		var head [5]byte
-		r.Name, _, at, ok = wantRead(packed, at)
+		r.Name, _, at, ok = wantReadLong(packed, at)
 		copy(head[:], rest.Next(5))
 		r.Type, r.Ttl = int(head[0]), int(head[1])<<16+int(head[2])<<8+int(head[3])
 		r.Data, _ = wantDataFrom(r.Type, string(rest.Next(int(head[4]))))
@@ -101,29 +96,45 @@ func wantCuts(l []impl.Record) [][]impl.Record {
 	return cuts
 }
 
-// wantCut tries all that may be left, the most first.
+// cutTry is what may be left of a message, and how many bytes it has.
+type cutTry struct {
+	left impl.Message
+	size int
+}
+
+// cutTriesOf is for good messages: all that may be left, the most first.
+func cutTriesOf(m impl.Message) []cutTry {
+	var tries []cutTry
+	try := func(answer, authority []impl.Record) {
+		left := m
+		left.Answer, left.Authority = answer, authority
+		left.Cut = m.Cut || len(answer)+len(authority) < len(m.Answer)+len(m.Authority)
+		b, _ := wantMessageBytes(left)
+		tries = append(tries, cutTry{left, len(b)})
+	}
+	for _, authority := range wantCuts(m.Authority) {
+		try(m.Answer, authority)
+	}
+	for _, answer := range wantCuts(m.Answer) {
+		try(answer, nil)
+	}
+	return tries
+}
+
+func firstThatFits(tries []cutTry, size int) (impl.Message, bool) {
+	for _, try := range tries {
+		if try.size <= size {
+			return try.left, true
+		}
+	}
+	return impl.Message{}, false
+}
+
 func wantCut(m impl.Message, size int) (impl.Message, bool) {
 	if !wantGoodMessage(m) || !m.Reply || size < 20 || size > 600 {
 		return impl.Message{}, false
 	}
-	var tries []impl.Message
-	for _, authority := range wantCuts(m.Authority) {
-		try := m
-		try.Authority = authority
-		tries = append(tries, try)
-	}
-	for _, answer := range wantCuts(m.Answer) {
-		try := m
-		try.Answer, try.Authority = answer, nil
-		tries = append(tries, try)
-	}
-	for _, try := range tries {
-		if b, ok := wantMessageBytes(try); ok && len(b) <= size {
-			try.Cut = m.Cut || len(try.Answer)+len(try.Authority) < len(m.Answer)+len(m.Authority)
-			return try, true
-		}
-	}
-	return impl.Message{}, false
+	return firstThatFits(cutTriesOf(m), size)
 }
 
 func wantQuestion(id int, name string, kind int) (impl.Message, bool) {

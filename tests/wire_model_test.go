@@ -58,10 +58,8 @@ func wantWalk(b string, at, below int) (labels []string, places []int, behind in
 	return append([]string{smallLetters(b[at+1 : at+1+n])}, labels...), append([]int{at}, places...), behind, ok
 }
 
-func wantRead(b string, at int) (name string, places []int, behind int, ok bool) {
-	if len(b) > 600 {
-		return "", nil, 0, false
-	}
+// wantReadLong is for bytes without a limit, as those of a message's names.
+func wantReadLong(b string, at int) (name string, places []int, behind int, ok bool) {
 	labels, places, behind, ok := wantWalk(b, at, at)
 	name = strings.Join(labels, ".")
 	if !ok || !wantGood(name) {
@@ -75,44 +73,55 @@ func wantRead(b string, at int) (name string, places []int, behind int, ok bool)
 	return name, places, behind, true
 }
 
-func wantSuffixes(b string) ([]int, bool) {
+func wantRead(b string, at int) (name string, places []int, behind int, ok bool) {
 	if len(b) > 600 {
-		return nil, false
+		return "", nil, 0, false
 	}
+	return wantReadLong(b, at)
+}
+
+func wantSuffixesLong(b string) []int {
 	var all []int
 	for at := 0; ; {
-		_, places, behind, ok := wantRead(b, at)
+		_, places, behind, ok := wantReadLong(b, at)
 		if !ok {
-			return all, true
+			return all
 		}
 		all = append(all, places...)
 		at = behind
 	}
 }
 
-// wantPut tries every place for every suffix, the longest suffix and the least place first.
-func wantPut(b, s string) (string, bool) {
-	places, ok := wantSuffixes(b)
-	if !ok || !wantGood(s) {
-		return "", false
+func wantSuffixes(b string) ([]int, bool) {
+	if len(b) > 600 {
+		return nil, false
 	}
-	labels := wantLabels(s)
+	return wantSuffixesLong(b), true
+}
+
+// wantPutLong is for good names: it tries every place for every suffix, the longest suffix and the least place first.
+func wantPutLong(b, s string) string {
+	labels, places := wantLabels(s), wantSuffixesLong(b)
 	for i := range labels {
 		for _, place := range places {
-			if told, _, _, ok := wantRead(b, place); ok && told == strings.Join(labels[i:], ".") {
+			if told, _, _, ok := wantReadLong(b, place); ok && told == strings.Join(labels[i:], ".") {
 				ahead := strings.TrimSuffix(wantPlain(strings.Join(labels[:i], ".")), "\x00")
-				return wantFits(b + ahead + pointerTo(place))
+				return b + ahead + pointerTo(place)
 			}
 		}
 	}
-	return wantFits(b + wantPlain(s))
+	return b + wantPlain(s)
 }
 
-func wantFits(b string) (string, bool) {
-	if len(b) > 600 {
+func wantPut(b, s string) (string, bool) {
+	if len(b) > 600 || !wantGood(s) {
 		return "", false
 	}
-	return b, true
+	longer := wantPutLong(b, s)
+	if len(longer) > 600 {
+		return "", false
+	}
+	return longer, true
 }
 
 func wantPack(l []string) (string, bool) {
