@@ -141,6 +141,11 @@ func orderOfNames(a string, b string) int {
 	return order
 }
 
+// liesBelow is for names that are known to be good.
+func liesBelow(a string, b string) bool {
+	return a == b || b == "" || strings.HasSuffix(a, "."+b)
+}
+
 func GoodName(s string) bool {
 	_, ok := splitName(s)
 	return ok
@@ -177,7 +182,7 @@ func IsBelow(a string, b string) (bool, bool) {
 	if !GoodName(a) || !GoodName(b) {
 		return false, false
 	}
-	return a == b || b == "" || strings.HasSuffix(a, "."+b), true
+	return liesBelow(a, b), true
 }
 
 func CompareNames(a string, b string) (int, bool) {
