@@ -27,11 +27,11 @@ func countsOf(more, less [][]impl.Record) map[impl.Record]int {
 	return counts
 }
 
-// withCount are the records that are counted so, in order.
-func withCount(counts map[impl.Record]int, count int) []impl.Record {
+// withCount are the records that have one of these counts, in order.
+func withCount(counts map[impl.Record]int, wanted ...int) []impl.Record {
 	var l []impl.Record
 	for r, many := range counts {
-		if many == count {
+		if slices.Contains(wanted, many) {
 			l = append(l, r)
 		}
 	}
@@ -82,14 +82,14 @@ func wantBackDiff(d impl.Diff) (impl.Diff, bool) {
 	return impl.Diff{From: d.To, To: d.From, Dels: d.Adds, Adds: d.Dels}, true
 }
 
-// wantJoined takes what goes or comes twice as not good: no list of the joined one rises with it.
+// wantJoined has each record once that goes or comes at all, be it by one of the diffs or by both.
 func wantJoined(a, b impl.Diff) (impl.Diff, bool) {
 	if !wantGoodDiff(a) || !wantGoodDiff(b) || a.To != b.From || a.From == b.To {
 		return impl.Diff{}, false
 	}
 	counts := countsOf([][]impl.Record{a.Adds, b.Adds}, [][]impl.Record{a.Dels, b.Dels})
-	d := impl.Diff{From: a.From, To: b.To, Dels: withCount(counts, -1), Adds: withCount(counts, 1)}
-	if !areCounted(counts, -1, 1) || !wantGoodDiff(d) {
+	d := impl.Diff{From: a.From, To: b.To, Dels: withCount(counts, -1, -2), Adds: withCount(counts, 1, 2)}
+	if !wantGoodDiff(d) {
 		return impl.Diff{}, false
 	}
 	return d, true

@@ -195,8 +195,9 @@ func TestAllSmallDiffsJoined(t *testing.T) {
 			joined[checkJoin(t, a, b)]++
 		}
 	}
-	if len(joined) != 2 || joined[true] < 1000 {
-		t.Error("the diffs are all of one kind", joined)
+	// Whatever the records of two good diffs are, the counters alone decide: six ways through all three of them.
+	if joined[true] != 6*27*27 || joined[false] < 1000 {
+		t.Error("other diffs are joined than those whose counters fit", joined)
 	}
 }
 
@@ -401,6 +402,13 @@ func TestListsOfOneMemoryAreTwo(t *testing.T) {
 		t.Error("no diffs are joined")
 	}
 	wantDiffsApart(t, joined)
+	// Both diffs have one memory, of which each record is told once.
+	same, ok := impl.JoinDiffs(halves, diffOf(4, 5, l[:10], l[10:]))
+	if !ok || !alikeDiff(same, diffOf(3, 5, l[:10], l[10:])) {
+		t.Errorf("JoinDiffs = %s, %v", shown(same), ok)
+	}
+	wantDiffsApart(t, same)
+	wantApart(t, textsOfDiffs(same), textsOfRecords(l)...)
 	j := impl.Journal{Apex: "ex.com", First: 1, Diffs: []impl.Diff{gone, come, halves}}
 	known := wantDiffsKnown(t, j, 1)
 	wantDiffsApart(t, known...)
@@ -507,8 +515,9 @@ func TestNothingIsToldFromBehindDiffs(t *testing.T) {
 	told, _ := impl.PutDiff(j, next)
 	back, _ := impl.BackDiff(d)
 	joined, _ := impl.JoinDiffs(d, withSpareLists(next))
+	same, _ := impl.JoinDiffs(d, withSpareLists(diffOf(6, 7, d.Dels, d.Adds)))
 	known := wantDiffsKnown(t, j, 5)
-	for _, l := range listsOf(slices.Concat([]impl.Diff{back, joined}, told.Diffs, known)...) {
+	for _, l := range listsOf(slices.Concat([]impl.Diff{back, joined, same}, told.Diffs, known)...) {
 		for _, r := range l[:cap(l)][len(l):] {
 			if r != (impl.Record{}) {
 				t.Errorf("behind what is told stands %s", shown(r))

@@ -551,6 +551,31 @@ func TestDiffsThatAreJoined(t *testing.T) {
 	wantJoinedTo(t, diffOf(1, 2, list(soaOf("ex.com", 1)), list(soaOf("ex.com", 2), a)), diffOf(2, 3, list(soaOf("ex.com", 2)), list(soaOf("ex.com", 3), b)), list(soaOf("ex.com", 1)), list(soaOf("ex.com", 3), a, b))
 }
 
+// What both diffs delete, or both add, is one record of the joined one, be all else as it may.
+func TestWhatBothDiffsHaveIsJoinedOnce(t *testing.T) {
+	a, b, c, e := addressOf("a.ex.com", 1), addressOf("b.ex.com", 1), addressOf("c.ex.com", 1), addressOf("e.ex.com", 1)
+	wantJoinedTo(t, diffOf(1, 2, list(a), nil), diffOf(2, 3, list(a), nil), list(a), nil)
+	wantJoinedTo(t, diffOf(1, 2, nil, list(a)), diffOf(2, 3, nil, list(a)), nil, list(a))
+	wantJoinedTo(t, diffOf(1, 2, list(a), list(b)), diffOf(2, 3, list(a), list(b)), list(a), list(b))
+	wantJoinedTo(t, diffOf(1, 2, list(a, b, c), nil), diffOf(2, 3, list(a, b, c), nil), list(a, b, c), nil)
+	// Beside others, which stand ahead, between and behind.
+	wantJoinedTo(t, diffOf(1, 2, list(a, c), nil), diffOf(2, 3, list(b, c, e), nil), list(a, b, c, e), nil)
+	wantJoinedTo(t, diffOf(1, 2, nil, list(b, c, e)), diffOf(2, 3, nil, list(a, b)), nil, list(a, b, c, e))
+	// Beside what comes and goes.
+	wantJoinedTo(t, diffOf(1, 2, list(a, b), nil), diffOf(2, 3, list(b), list(a)), list(b), nil)
+	wantJoinedTo(t, diffOf(1, 2, list(b), list(a)), diffOf(2, 3, nil, list(a, b)), nil, list(a))
+	wantJoinedTo(t, diffOf(1, 2, list(a, b), list(c, e)), diffOf(2, 3, list(a, c), list(b, e)), list(a), list(e))
+	// Another Ttl makes another record.
+	wantJoinedTo(t, diffOf(1, 2, list(a), nil), diffOf(2, 3, list(withTtl(a, 61)), nil), list(a, withTtl(a, 61)), nil)
+	wantJoinedTo(t, diffOf(1, 2, nil, list(a, withTtl(a, 61))), diffOf(2, 3, nil, list(withTtl(a, 61), withTtl(a, 62))), nil, list(a, withTtl(a, 61), withTtl(a, 62)))
+	// The counters still have to fit.
+	wantNotJoined(t, diffOf(1, 2, list(a), nil), diffOf(2, 1, list(a), nil))
+	wantNotJoined(t, diffOf(1, 2, nil, list(a)), diffOf(3, 4, nil, list(a)))
+	// Nor is a record that stands twice in one of the diffs made one.
+	wantNotJoined(t, diffOf(1, 2, []impl.Record{a, a}, nil), diffOf(2, 3, nil, nil))
+	wantNotJoined(t, diffOf(1, 2, list(a), nil), diffOf(2, 3, []impl.Record{a, a}, nil))
+}
+
 func TestCountersOfJoinedDiffs(t *testing.T) {
 	a, b := addressOf("a.ex.com", 1), addressOf("b.ex.com", 1)
 	// Up and down, the one longer than the other.
@@ -596,12 +621,12 @@ func TestJoinedDiffsThatAreNotGood(t *testing.T) {
 	wantJoinedTo(t, diffOf(1, 2, nil, first), diffOf(2, 3, first, second), nil, second)
 	wantJoinedTo(t, diffOf(1, 2, first, second), diffOf(2, 3, second, first), nil, nil)
 	wantJoinedTo(t, diffOf(1, 2, first, nil), diffOf(2, 3, second[:1], first[:1]), list(append(slices.Clone(first[1:]), second[0])...), nil)
-	// What goes twice, or comes twice, would stand twice in a list.
-	a, b := addressOf("a.ex.com", 1), addressOf("b.ex.com", 1)
-	wantNotJoined(t, diffOf(1, 2, list(a), nil), diffOf(2, 3, list(a), nil))
-	wantNotJoined(t, diffOf(1, 2, nil, list(a)), diffOf(2, 3, nil, list(a)))
-	wantNotJoined(t, diffOf(1, 2, list(a, b), nil), diffOf(2, 3, list(b), list(a)))
-	wantNotJoined(t, diffOf(1, 2, list(b), list(a)), diffOf(2, 3, nil, list(a, b)))
+	// What both have counts once.
+	wantJoinedTo(t, diffOf(1, 2, first, second), diffOf(2, 3, first, second), first, second)
+	wantJoinedTo(t, diffOf(1, 2, first[:39], nil), diffOf(2, 3, first[1:], nil), first, nil)
+	wantJoinedTo(t, diffOf(1, 2, nil, first[:39]), diffOf(2, 3, nil, first[1:]), nil, first)
+	wantNotJoined(t, diffOf(1, 2, first, nil), diffOf(2, 3, l[1:41], nil))
+	wantNotJoined(t, diffOf(1, 2, nil, first), diffOf(2, 3, nil, l[1:41]))
 }
 
 func TestNewJournals(t *testing.T) {
