@@ -118,13 +118,10 @@ func wantWithout(c impl.Cache, now int, over func(impl.Entry) bool) (impl.Cache,
 }
 
 func wantPass(c impl.Cache, by int) (impl.Cache, int, bool) {
-	if !wantGoodCache(c) || by < 1 || by > mostStep {
+	if !wantGoodCache(c) || by < 1 || by > mostStep || by > mostTime-c.Now {
 		return impl.Cache{}, 0, false
 	}
 	now := c.Now + by
-	if now > mostTime {
-		now = mostTime
-	}
 	return wantWithout(c, now, func(e impl.Entry) bool { return e.Until <= now })
 }
 
@@ -180,7 +177,7 @@ func randomAnswer(r *rand.Rand) []impl.Record {
 // randomCache has gone through some of the model's steps from any time on.
 func randomCache(r *rand.Rand) impl.Cache {
 	c := impl.Cache{Now: []int{1, 1 + r.Intn(100), 1 + r.Intn(mostTime), mostTime - r.Intn(300), mostTime - r.Intn(mostStep), mostTime}[r.Intn(6)]}
-	for range r.Intn(90) {
+	for range r.Intn(140) {
 		name, kind := randomOwner(r)
 		next, ok := c, true
 		switch r.Intn(9) {

@@ -53,8 +53,8 @@ func checkAsk(t *testing.T, c impl.Cache, name string, kind int) bool {
 	return ok
 }
 
-// checkLess asks for what makes a cache less: time, and a name.
-func checkLess(t *testing.T, c impl.Cache, by int, name string) {
+// checkLess asks for what makes a cache less: time, and a name. It tells whether time would go beyond its end by a step that is one.
+func checkLess(t *testing.T, c impl.Cache, by int, name string) bool {
 	t.Helper()
 	want, many, ok := wantPass(c, by)
 	if got, gone, good := impl.PassTime(c, by); !alikeCaches(got, want) || gone != many || good != ok {
@@ -64,6 +64,7 @@ func checkLess(t *testing.T, c impl.Cache, by int, name string) {
 	if got, gone, good := impl.DropBelow(c, name); !alikeCaches(got, want) || gone != many || good != ok {
 		t.Errorf("DropBelow(%s, %.80q) = %s, %d, %v; want %s, %d, %v", shown(c), name, shown(got), gone, good, shown(want), many, ok)
 	}
+	return wantGoodCache(c) && by >= 1 && by <= mostStep && c.Now+by > mostTime
 }
 
 // randomStep leans on the edges of how much time may pass, and on when the entries of a cache are over.
@@ -71,12 +72,12 @@ func randomStep(r *rand.Rand, c impl.Cache) int {
 	if len(c.Entries) > 0 && r.Intn(2) == 0 {
 		return c.Entries[r.Intn(len(c.Entries))].Until - c.Now + r.Intn(3) - 1
 	}
-	return []int{0, 1, mostStep, mostStep + 1, 1 + r.Intn(mostStep), mostTime - c.Now, randomInt(r)}[r.Intn(7)]
+	return []int{0, 1, mostStep, mostStep + 1, 1 + r.Intn(mostStep), mostTime - c.Now, mostTime - c.Now + 1, randomInt(r)}[r.Intn(8)]
 }
 
 func TestCachesAnswerAtAnyArguments(t *testing.T) {
 	r := rand.New(rand.NewSource(103))
-	good, put, there := map[bool]int{}, map[bool]int{}, map[bool]int{}
+	good, put, there, beyond := map[bool]int{}, map[bool]int{}, map[bool]int{}, map[bool]int{}
 	sizes := map[int]int{}
 	for range 400 {
 		c := randomCache(r)
@@ -97,12 +98,12 @@ func TestCachesAnswerAtAnyArguments(t *testing.T) {
 				e := tried.Entries[r.Intn(many)]
 				there[checkAsk(t, tried, e.Name, e.Type)]++
 			}
-			checkLess(t, tried, randomStep(r, tried), name)
-			checkLess(t, tried, randomStep(r, tried), randomText(r))
+			beyond[checkLess(t, tried, randomStep(r, tried), name)]++
+			beyond[checkLess(t, tried, randomStep(r, tried), randomText(r))]++
 		}
 	}
-	if min(good[true], good[false], put[true], put[false], there[true], there[false]) < 300 || sizes[20] < 50 {
-		t.Error("the caches are all of one kind", good, put, there, sizes)
+	if min(good[true], good[false], put[true], put[false], there[true], there[false]) < 300 || min(beyond[true], beyond[false]) < 200 || sizes[20] < 50 {
+		t.Error("the caches are all of one kind", good, put, there, beyond, sizes)
 	}
 }
 

@@ -636,24 +636,70 @@ func TestTimePasses(t *testing.T) {
 	}
 }
 
-// Time ends at the greatest Now: it is come to, and not gone past.
+// aboutTheEnd has what is over right ahead of the greatest Now, at it, right behind it, and as late as can be, as far as a cache of this time may have it.
+func aboutTheEnd(now int) impl.Cache {
+	all := []impl.Entry{noneOf("a.com", 1, mostTime-1, 1), noneOf("b.com", 1, mostTime, now), entryOf(mostTime+1, 1, answerOf("c.com", 60, 1, 2)...), noneOf("d.com", 1, now+mostTtl, now)}
+	return cacheAt(now, entriesBut(all, func(e impl.Entry) bool { return !wantGoodEntry(now, e) })...)
+}
+
+// Time ends at the greatest Now: it is come to exactly, by one step or by several.
 func TestTheEndOfTime(t *testing.T) {
-	for _, by := range []int{1, 2, 10, 60, mostStep - 1, mostStep} {
-		for _, from := range []int{0, 1, by / 2, by - 1, by} {
-			now := mostTime - from
-			wantTimePassed(t, cacheAt(now), by, mostTime, 0)
-			last := noneOf("b.com", 1, mostTime+1, now)
-			var all []impl.Entry
-			if from > 0 {
-				all = append(all, noneOf("a.com", 1, mostTime, 1))
+	for _, by := range []int{1, 2, 3, 10, 60, mostStep - 1, mostStep} {
+		c := aboutTheEnd(mostTime - by)
+		left := entriesBut(c.Entries, func(e impl.Entry) bool { return e.Until <= mostTime })
+		wantTimePassed(t, cacheAt(c.Now), by, mostTime, 0)
+		wantTimePassed(t, c, by, mostTime, len(c.Entries)-len(left), left...)
+		if by < 2 {
+			continue
+		}
+		ahead := entriesBut(c.Entries, func(e impl.Entry) bool { return e.Until < mostTime })
+		c = wantTimePassed(t, c, by-1, mostTime-1, len(c.Entries)-len(ahead), ahead...)
+		wantTimePassed(t, c, 1, mostTime, len(ahead)-len(left), left...)
+	}
+	full := fullCache(mostTime-99, 20, alwaysAt(1))
+	wantTimePassed(t, full, 99, mostTime, 0, full.Entries...)
+	wantTimePassed(t, fullCache(mostTime-100, 20, alwaysAt(1)), 100, mostTime, 20)
+}
+
+// Beyond it no step is done, not even in part, whatever a cache has and however far the step goes.
+func TestNoTimePassesBeyondTheEnd(t *testing.T) {
+	for _, left := range []int{0, 1, 2, 3, 10, 60, mostStep - 2, mostStep - 1} {
+		now := mostTime - left
+		caches := []impl.Cache{cacheAt(now), aboutTheEnd(now), fullCache(now, 20, alwaysAt(now)), cacheAt(now, noneOf("a.com", 1, now+1, 1)), cacheAt(now, noneOf("a.com", 1, now+mostTtl, 1))}
+		for _, by := range []int{left + 1, left + 2, left + 60, (left + 1 + mostStep) / 2, mostStep - 1, mostStep, mostStep + 1, mostTime, math.MaxInt - now, math.MaxInt} {
+			if by <= left {
+				continue
 			}
-			if from < mostTtl {
-				all = append(all, last)
-				c := wantTimePassed(t, cacheAt(now, all...), by, mostTime, len(all)-1, last)
-				// There it stays, and is told.
-				c = wantTimePassed(t, c, 1, mostTime, 0, last)
-				c = wantTimePassed(t, c, mostStep, mostTime, 0, last)
-				wantToldBy(t, c, noneOf("b.com", 1, mostTime+1, mostTime))
+			for _, c := range caches {
+				wantNoTimePassed(t, c, by)
+			}
+		}
+		for _, by := range []int{0, -1, -left, -now, math.MinInt} {
+			wantNoTimePassed(t, caches[1], by)
+		}
+	}
+}
+
+// What is put so late that its end lies beyond the greatest Now is told up to there with what is left of its time; from there on time does not pass at all, so that it is told at no moment at which it would be over.
+func TestWhatIsPutNearTheEndOfTime(t *testing.T) {
+	for _, left := range []int{0, 1, 2, 5, 60} {
+		for _, ttl := range []int{left + 1, left + 2, left + 60, mostTtl} {
+			now, until := mostTime-left, mostTime-left+ttl
+			l := answerOf("b.ex.com", ttl, 1, 2)
+			c := wantNoneCached(t, cacheAt(now), "a.ex.com", 1, ttl, noneOf("a.ex.com", 1, until, now))
+			c = wantCached(t, c, l, c.Entries[0], entryOf(until, now, l...))
+			wantNoTimePassed(t, c, ttl+mostStep)
+			for gone := range left + 1 {
+				wantToldBy(t, c, noneOf("a.ex.com", 1, until, c.Now))
+				wantToldBy(t, c, entryOf(until, c.Now, answerOf("b.ex.com", ttl-gone, 1, 2)...))
+				wantNoTimePassed(t, c, mostTime-c.Now+1)
+				wantNoTimePassed(t, c, until-c.Now)
+				if c.Now < mostTime {
+					c = wantTimePassed(t, c, 1, now+gone+1, 0, c.Entries...)
+				}
+			}
+			if c.Now != mostTime {
+				t.Error(left, ttl, c.Now)
 			}
 		}
 	}
