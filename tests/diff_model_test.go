@@ -184,7 +184,10 @@ func atCounter(z impl.Zone, counter int) impl.Zone {
 
 // randomVersions are good zones of one apex with rising counters, each some changes behind the one ahead.
 func randomVersions(r *rand.Rand, many int) []impl.Zone {
-	z := goodRandomZone(r)
+	return versionsFrom(r, goodRandomZone(r), many)
+}
+
+func versionsFrom(r *rand.Rand, z impl.Zone, many int) []impl.Zone {
 	for z.Counter > mostCounter/2 {
 		z = atCounter(z, z.Counter/2)
 	}
